@@ -1,0 +1,1 @@
+"""Callplans: plans of calls that may stand for one another."""
