@@ -21,6 +21,17 @@ def plans_within(form):
     return 1 if form[0] in PREFIX_WORDS else 0
 
 
+def ends_of(forms):
+    """Returns for each form the place behind the plan that begins with it."""
+    ends = [0] * len(forms)
+    for place in reversed(range(len(forms))):
+        end = place + 1
+        for _ in range(plans_within(forms[place])):
+            end = ends[end]
+        ends[place] = end
+    return ends
+
+
 def text_of(forms):
     """Returns the text of a plan."""
     texts = []
@@ -75,3 +86,19 @@ def services_of(forms):
             services = services * form[1]
         lists.append(services)
     return lists.pop()
+
+
+def written_out(forms):
+    """Returns the forms of a written-out plan, which has no retries; without a limit of size it may be very long."""
+    parts = []
+    for form in forms[::-1]:
+        if form[0] == "retry":
+            inner = parts.pop()
+            failing = (("else",),) + inner + (("then",), ("pause", form[2]))
+            parts.append(failing * (form[1] - 1) + inner)
+        else:
+            part = (form,)
+            for _ in range(plans_within(form)):
+                part = part + parts.pop()
+            parts.append(part)
+    return parts.pop()

@@ -77,3 +77,22 @@ class Times:
     def is_within(self, other):
         """Tells whether each time belongs to another set, too."""
         return (self & other) == self
+
+
+def times_before(ends, lengths):
+    """Returns the Times of all starts from which one of the lengths leads to one of the ends."""
+    return Times([(max(0, low - most), high - least) for low, high in ends.ranges
+                  for least, most in lengths.ranges if high >= least])
+
+
+def times_outside(times, most):
+    """Returns the Times from 0 to most that are not in a set."""
+    found = []
+    start = 0
+    for low, high in times.up_to(most).ranges:
+        if start < low:
+            found.append((start, low - 1))
+        start = high + 1
+    if start <= most:
+        found.append((start, most))
+    return Times(found)

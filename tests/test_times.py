@@ -3,7 +3,7 @@ import itertools
 import unittest
 
 from callplans.errors import BadRange
-from callplans.times import Times
+from callplans.times import Times, times_before, times_outside
 from values import any_values, nested_list, nested_tuple
 
 GREAT = 10**30
@@ -240,6 +240,27 @@ class MethodTest(unittest.TestCase):
         others = [Times([(4, 9)]), Times([(3, 8)]), Times([(3, 5)]), Times([(3, 5), (8, 8)]), Times([(3, 4), (8, 9)])]
         self.assertEqual([times.is_within(other) for other in within], [True] * 4)
         self.assertEqual([times.is_within(other=other) for other in others], [False] * 5)
+
+
+class FunctionTest(unittest.TestCase):
+    def test_times_before(self):
+        for ends, lengths in itertools.product(some_lists()[::3], some_lists()):
+            wanted = {end - length for end in members(ends) for length in members(lengths) if end >= length}
+            self.assertEqual(times_before(Times(ends), Times(lengths)).ranges, fewest(wanted))
+
+    def test_times_before_of_wide_ranges(self):
+        for (low, high), (least, most) in itertools.product(SPANS, repeat=2):
+            found = times_before(Times([(low, high)]), Times([(least, most)]))
+            wanted = {end - length for end in range(low, high + 1) for length in range(least, most + 1) if end >= length}
+            self.assertEqual(found.ranges, fewest(wanted))
+
+    def test_times_outside(self):
+        for ranges in some_lists():
+            for most in range(8):
+                wanted = {time for time in range(most + 1) if time not in members(ranges)}
+                self.assertEqual(times_outside(Times(ranges), most).ranges, fewest(wanted))
+        found = times_outside(Times([(3, GREAT), (GREAT + 2, 3 * GREAT)]), 2 * GREAT)
+        self.assertEqual(found.ranges, ((0, 2), (GREAT + 1, GREAT + 1)))
 
 
 if __name__ == "__main__":
