@@ -42,8 +42,8 @@ def outcome_within(limit, inner):
     return inner
 
 
-def outcome_of(forms, replies):
-    """Returns the outcome of a written-out plan without holes, whose calls have the replies."""
+def outcomes_at(forms, replies):
+    """Returns for each form of a written-out plan without holes the outcome of the plan that begins with it."""
     ends = ends_of(forms)
     left = list(replies)
     found = [NEVER] * len(forms)
@@ -60,4 +60,9 @@ def outcome_of(forms, replies):
             found[place] = outcome_within(form[1], found[place + 1])
         else:
             found[place] = outcome_of_pair(form[0], found[place + 1], found[ends[place + 1]])
-    return found[0]
+    return found
+
+
+def outcome_of(forms, replies):
+    """Returns the outcome of a written-out plan without holes, whose calls have the replies."""
+    return outcomes_at(forms, replies)[0]

@@ -32,6 +32,22 @@ def ends_of(forms):
     return ends
 
 
+def parts_at(forms, ends, place):
+    """Returns the places of the plans within the form at a place, where ends is what ends_of told of the forms."""
+    parts = []
+    part = place + 1
+    for _ in range(plans_within(forms[place])):
+        parts.append(part)
+        part = ends[part]
+    return parts
+
+
+def is_in_retry(forms, place):
+    """Tells whether the form at a place stands inside of a retry."""
+    ends = ends_of(forms)
+    return any([form[0] == "retry" and start < place < ends[start] for start, form in enumerate(forms)])
+
+
 def text_of(forms):
     """Returns the text of a plan."""
     texts = []

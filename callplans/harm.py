@@ -89,8 +89,8 @@ def longest(forms, replies):
     return sum(numbers) + sum([some.latest() for some in replies])
 
 
-def harmful(forms, replies, wanted, most):
-    """Returns the outcomes of the hole, with times up to most, that lead out of the wanted set in some world.
+def leading_to(forms, replies, harm, most):
+    """Returns the outcomes of the hole, with times up to most, that lead to one of a set in some world.
 
     The plan is written out and has one hole; replies are the sets of replies of its calls.
     """
@@ -98,9 +98,7 @@ def harmful(forms, replies, wanted, most):
     ends = ends_of(forms)
     # Only the sets of what stands beside the hole are read, so anything may stand in its place.
     sets = sets_of(forms[:hole] + (("fail",),) + forms[hole + 1:], replies)
-    # Each form around the hole takes away some of the times at the end, for which nothing is known any more.
     far = most + longest(forms, replies)
-    harm = Outcomes(times_outside(wanted.ok, far), times_outside(wanted.fail, far), not wanted.never)
     place = 0
     while place < hole:
         first = place + 1
@@ -114,3 +112,11 @@ def harmful(forms, replies, wanted, most):
             harm = harmful_second(forms[place][0], harm, sets[first], far)
             place = ends[first]
     return Outcomes(harm.ok.up_to(most), harm.fail.up_to(most), harm.never)
+
+
+def harmful(forms, replies, wanted, most):
+    """Returns the outcomes of the hole, with times up to most, that lead out of the wanted set in some world."""
+    # Each form around the hole takes away some of the times at the end, for which nothing is known any more.
+    far = most + longest(forms, replies)
+    harm = Outcomes(times_outside(wanted.ok, far), times_outside(wanted.fail, far), not wanted.never)
+    return leading_to(forms, replies, harm, most)

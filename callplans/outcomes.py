@@ -9,7 +9,7 @@ from callplans.choosing import chosen_world
 from callplans.errors import NoOutcome
 from callplans.evaluation import NEVER
 from callplans.forms import ends_of, written_out
-from callplans.times import Times
+from callplans.times import Times, times_but
 
 # Where ok and fail are exchanged, these words are exchanged, too.
 EXCHANGED = {"else": "then", "either": "both"}
@@ -53,6 +53,40 @@ class Outcomes:
 def times_at(time):
     """Returns the Times of one time."""
     return Times([(time, time)])
+
+
+def common(some, others):
+    """Returns the outcomes that are in both of two sets."""
+    return Outcomes(some.ok & others.ok, some.fail & others.fail, some.never and others.never)
+
+
+def all_but(some, others):
+    """Returns the outcomes of a set that are not in another one."""
+    never = some.never and not others.never
+    return Outcomes(times_but(some.ok, others.ok), times_but(some.fail, others.fail), never)
+
+
+def is_empty(some):
+    """Tells whether a set has no outcomes."""
+    return not (some.ok or some.fail or some.never)
+
+
+def alone(outcome):
+    """Returns the set of one outcome."""
+    if outcome == NEVER:
+        return Outcomes(Times([]), Times([]), True)
+    if outcome[0] == "ok":
+        return Outcomes(times_at(outcome[1]), Times([]), False)
+    return Outcomes(Times([]), times_at(outcome[1]), False)
+
+
+def least_of(some):
+    """Returns the least outcome of a set: never ahead of ok, and ok ahead of fail; None if there is none."""
+    if some.never:
+        return NEVER
+    if some.ok:
+        return ("ok", some.ok.least())
+    return ("fail", some.fail.least()) if some.fail else None
 
 
 def allowed_by(contract):
@@ -127,9 +161,9 @@ def sets_of(forms, replies):
         if form[0] == "call":
             sets[place] = left.pop()
         elif form[0] == "pause":
-            sets[place] = Outcomes(times_at(form[1]), Times([]), False)
+            sets[place] = alone(("ok", form[1]))
         elif form[0] == "fail":
-            sets[place] = Outcomes(Times([]), times_at(0), False)
+            sets[place] = alone(("fail", 0))
         elif form[0] == "within":
             sets[place] = set_within(form[1], sets[place + 1])
         else:

@@ -1,31 +1,11 @@
 """Plans that may stand for other plans, and surrounding plans in which they are later."""
 
-from callplans.choosing import times_of
 from callplans.evaluation import NEVER
 from callplans.forms import HOLE
-from callplans.outcomes import outcomes
+from callplans.outcomes import all_but, least_of, outcomes
 from callplans.plans import Plan, plug
-from callplans.times import times_outside
 
 PAUSE_OF_ONE = ("pause", 1)
-
-
-def least_new_time(times, others):
-    """Returns the least time that is not in another set, or None if there is none."""
-    if not times:
-        return None
-    return (times & times_outside(others, times.greatest())).least()
-
-
-def least_new_outcome(some, others):
-    """Returns the least outcome that is not in another set, or None if there is none."""
-    if some.never and not others.never:
-        return NEVER
-    for word in ("ok", "fail"):
-        time = least_new_time(times_of(some, word), times_of(others, word))
-        if time is not None:
-            return (word, time)
-    return None
 
 
 def surrounding_after(outcome, others):
@@ -44,7 +24,7 @@ def surrounding_for(first, second, contracts):
     """Returns None if the first plan may stand for the second one, otherwise a surrounding plan where it is later."""
     some = outcomes(first, contracts)
     others = outcomes(second, contracts)
-    found = least_new_outcome(some, others)
+    found = least_of(all_but(some, others))
     return None if found is None else surrounding_after(found, others)
 
 

@@ -2,7 +2,7 @@
 
 from callplans.checks import refuse_large, refuse_unknown_services
 from callplans.errors import HasHole, NoMark
-from callplans.forms import HOLE, MARK, ends_of, written_out
+from callplans.forms import HOLE, MARK, ends_of, is_in_retry, written_out
 from callplans.harm import harmful
 from callplans.outcomes import Outcomes, replies_under, sets_of
 from callplans.times import Times, times_outside
@@ -14,9 +14,7 @@ def has_good_mark(forms):
     """Tells whether a plan has exactly one mark, which does not stand inside of a retry."""
     if forms.count(MARK) != 1:
         return False
-    mark = forms.index(MARK)
-    ends = ends_of(forms)
-    return not any([form[0] == "retry" and place < mark < ends[place] for place, form in enumerate(forms)])
+    return not is_in_retry(forms, forms.index(MARK))
 
 
 def check_marked(plan, contracts):

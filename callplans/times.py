@@ -85,6 +85,11 @@ def times_before(ends, lengths):
                   for least, most in lengths.ranges if high >= least])
 
 
+def times_but(times, others):
+    """Returns the Times of a set that are not in another one."""
+    return times & times_outside(others, times.greatest()) if times else times
+
+
 def times_outside(times, most):
     """Returns the Times from 0 to most that are not in a set."""
     found = []

@@ -12,30 +12,13 @@ from callplans.harm import harmful
 from callplans.outcomes import Outcomes, replies_under
 from callplans.plans import Plan
 from callplans.times import Times
+from holes import filled, with_hole
 
 NEVER = ("never",)
 CONTRACTS = {
     "a": Contract(ok=(1, 3), fail=(2, 4)), "b": Contract(ok=(2, 2), fail=(5, 5), hang=True), "c": Contract(fail=(1, 2)),
 }
 AT_HOLE = [(word, time) for word in ("ok", "fail") for time in range(16)] + [NEVER]
-
-
-def with_hole(tree):
-    """Returns the trees with the hole in the place of one of the parts of a tree, which stands in no retry."""
-    found = [HOLE]
-    if tree[0] in trees.PAIRS:
-        found += [(tree[0], first, tree[2]) for first in with_hole(tree[1])]
-        found += [(tree[0], tree[1], second) for second in with_hole(tree[2])]
-    if tree[0] == "within":
-        found += [("within", tree[1], inner) for inner in with_hole(tree[2])]
-    return found
-
-
-def filled(tree):
-    """Returns a tree with a call to the service h in the place of its hole."""
-    if tree == HOLE:
-        return ("call", "h")
-    return tuple(filled(part) if isinstance(part, tuple) else part for part in tree)
 
 
 def some_wanted(source):
