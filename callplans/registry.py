@@ -40,7 +40,7 @@ class KeptRun:
 
     def __init__(self, plan, deadline, contracts):
         self.run = Run(plan)
-        self.deadline = deadline
+        self.due = deadline
         self.bound = {}
         self.bind(contracts)
 
@@ -58,12 +58,12 @@ class KeptRun:
 
     def lateness(self, contracts):
         """Returns a world that agrees with the run, in which it ends after its deadline; None if it cannot."""
-        if self.deadline is None or self.run.outcome() is not None:
+        if self.due is None or self.run.outcome() is not None:
             return None
         replies = self.replies(contracts)
         if any([is_empty(some) for some in replies]):
             return None
-        return late_world(written_out(self.run.plan.forms), replies, self.deadline)
+        return late_world(written_out(self.run.plan.forms), replies, self.due)
 
 
 class Registry:
@@ -104,7 +104,7 @@ class Registry:
             raise UnknownRun(number)
         return self._runs[number]
 
-    def _replies(self, number):
+    def _agreeing(self, number):
         """Returns the replies of each call that agree with the run with a number."""
         replies = self._kept(number).replies(self._contracts)
         refuse_broken(replies)
@@ -141,5 +141,5 @@ class Registry:
 
     def bindings(self, number):
         """Returns the plan of a run, and the list of the sets of replies of its calls."""
-        replies = self._replies(number)
+        replies = self._agreeing(number)
         return self._kept(number).run.plan, replies
