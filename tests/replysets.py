@@ -55,6 +55,11 @@ def part_of(source, some):
             return found
 
 
+def one_of(source, some):
+    """Returns a set of one of the replies of a set."""
+    return outcomes_in([source.choice(sorted(reference.as_set(some), key=str))])
+
+
 def some_wanted(source, far=12):
     """Returns any set of outcomes."""
     spans = [(start, start + source.choice([0, 1, 3, 8])) for start in [source.randint(0, far) for _ in range(4)]]
