@@ -46,19 +46,25 @@ class Case:
         self.many = len(wide)
         self.told = (tree, [reference.as_set(some) for some in wide.replies()],
                      [reference.as_set(some) for some in sets], reference.as_set(wanted))
+        self.known = {}
         self.answer = answer(replysets.outcomes_of(tree, sets), wanted)
+
+    def answer_with(self, calls):
+        """Returns the answer where these calls have their sets of narrow, and all others those of wide."""
+        if calls not in self.known:
+            sets = self.sets_of(calls, self.narrow.replies(), self.wide.replies())
+            self.known[calls] = answer(set(replysets.outcomes_of(self.tree, sets)), self.wanted)
+        return self.known[calls]
 
     def sets_of(self, calls, few, many):
         """Returns the sets of few for these calls, and those of many for the others."""
         return [few[number] if number in calls else many[number] for number in range(self.many)]
 
     def is_reason(self, calls):
-        sets = self.sets_of(calls, self.narrow.replies(), self.wide.replies())
-        return answer(replysets.outcomes_of(self.tree, sets), self.wanted) is not None
+        return self.answer_with(tuple(calls)) is not None
 
     def is_change(self, calls):
-        sets = self.sets_of(calls, self.wide.replies(), self.narrow.replies())
-        return answer(replysets.outcomes_of(self.tree, sets), self.wanted) is None
+        return self.answer_with(tuple(number for number in range(self.many) if number not in calls)) is None
 
 
 def some_cases(seed, many, calls, depth=4):

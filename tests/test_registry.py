@@ -454,7 +454,7 @@ class ChangeTest(unittest.TestCase):
 class RunsTest(unittest.TestCase):
     def test_unknown_names(self):
         registry = both()
-        for name in ("s", "x", "", "bot", "both "):
+        for name in ("s", "x", "", "bot", "both ", None, 0, ["both"], ("both",)):
             for ask in (registry.worst, registry.deadline, registry.begin):
                 for _ in range(2):
                     self.assertEqual(error_of(ask, name), ("UnknownName", name))
@@ -464,7 +464,7 @@ class RunsTest(unittest.TestCase):
         registry = both()
         registry.begin("both")
         registry.begin("both")
-        for number in (2, 3, -1, -2, 10**30):
+        for number in (2, 3, -1, -2, 10**30, True, False, None, "0", [0]):
             for ask in (registry.outcome, registry.possible, registry.bindings):
                 self.assertEqual(error_of(ask, number), ("UnknownRun", number))
             self.assertEqual(error_of(registry.close, number, 5, []), ("UnknownRun", number))

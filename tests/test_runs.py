@@ -7,7 +7,7 @@ import reference
 import stepping
 import trees
 from callplans.contracts import Contract
-from callplans.errors import BadTime
+from callplans.errors import BadReply, BadTime
 from callplans.plans import Plan
 from callplans.runs import Run
 from checking import error_of
@@ -287,6 +287,13 @@ class CloseTest(unittest.TestCase):
         for number in (2, 3, -1, -2, 10**30, -10**30):
             self.refuse(run, 5, [(number, "ok")], ("BadReply", number))
             self.refuse(run, 5, [(0, "ok"), (number, "fail"), (77, "ok")], ("BadReply", number))
+
+    def test_bools_are_no_numbers(self):
+        run = begun("(call a both call b)")
+        for number in (True, False):
+            with self.assertRaises(BadReply) as caught:
+                run.close(5, [(number, "ok")])
+            self.assertIs(caught.exception.number, number)
 
     def test_calls_that_do_not_wait_yet(self):
         run = begun("(call a then (pause 5 then call b))")
