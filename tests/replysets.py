@@ -88,6 +88,23 @@ def outcomes_of(tree, sets):
     return [reference.outcome_of_form(plain, iter(world)) for world in worlds(sets)]
 
 
+def great_sets(source, many):
+    """Returns that many sets of replies at any times, with at most 16 ranges in all."""
+    found = []
+    for _ in range(many):
+        low, middle, high = sorted(source.sample(range(1, 10**6), 3))
+        found.append(source.choice([made([(low, middle)], [(middle, high)]), made([(low, high)], [], True),
+                                    made([(low, middle), (middle + 2, high + 2)]), made([], [(low, high)]),
+                                    made([(low, low)], [(high, high)], True)]))
+    return found
+
+
+def ends_and_beside(times):
+    """Returns the times at the ends of the ranges, in their midst, and one beside them."""
+    found = [time for low, high in times.ranges for time in (low - 1, low, (low + high) // 2, high, high + 1)]
+    return [time for time in found if time >= 0]
+
+
 def wide_sets(many, words=("ok", "fail"), hang=False, low=1):
     """Returns that many sets of all replies of the words."""
     span = [(low, 10**6)]

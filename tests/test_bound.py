@@ -232,6 +232,24 @@ class BoundTest(unittest.TestCase):
         self.assertEqual((found.ok.least(), found.ok.greatest()), (8, sum(4**number for number in range(1, 9))))
 
 
+    def test_great_runs(self):
+        wide = {"a": Contract(ok=(1, 10**6), fail=(1, 10**6), hang=True)}
+        every = made([(1, 10**6)], [(1, 10**6)], True)
+        plan = Plan.parse("retry 8 1000000000 call a")
+        registry, run = Registry(), Run(plan)
+        registry.change(contracts=wide, plans={"p": plan})
+        registry.begin("p")
+        for time, replies in [(400000, [(0, "fail")]), (10**9 + 400000, []), (10**9 + 400007, [])]:
+            run.close(time, replies)
+            registry.close(0, time, replies)
+        wanted = [made([], [(400000, 400000)]), made([(8, 10**6)], [(8, 10**6)], True)] + [every] * 6
+        self.assertEqual(bound_of(run, wide), Bound(plan, wanted))
+        self.assertEqual(bound_in(registry, 0), Bound(plan, wanted))
+        self.assertEqual(bound_of(run, wide).worlds(), (2 * (10**6 - 7) + 1) * (2 * 10**6 + 1)**6)
+        self.assertEqual(bound_of(run, wide).outcomes().fail.greatest(), 7 * 10**9 + 7 * 10**6 + 400000)
+        self.assertEqual(registry.possible(0), bound_in(registry, 0).outcomes())
+
+
 class BindingTest(unittest.TestCase):
     def test_bound_by(self):
         plan = Plan.parse("retry 2 1 (call a then within 3 call b)")

@@ -338,6 +338,29 @@ class GreatTest(unittest.TestCase):
                     if world is not None:
                         self.assertNotIn(frame(end, world), wanted)
 
+    def test_ends_of_ranges_and_beside_them(self):
+        source, both = random.Random(127), set()
+        numbers = [0, 1, 1000, 400000, 10**6, 1500000, 10**9]
+        for tree in reference.some_trees(128, 60, 8, numbers, depth=5):
+            bound = Bound(plan_of(tree), replysets.great_sets(source, len(trees.services(tree))))
+            found = bound.outcomes()
+            near = sorted(replysets.ends_and_beside(found.ok) + replysets.ends_and_beside(found.fail) + [0, 10**9])
+            spans = [tuple(sorted(source.choices(near, k=2))) for _ in range(4)]
+            wanted = made(spans[:source.randint(0, 2)], spans[source.randint(2, 4):], source.random() < 0.4)
+            for number in range(len(bound)):
+                frame, most = framed(bound, number), source.choice([FAR, 10**9, 10**6])
+                harmless = frame.harmless(wanted, most=most)
+                ends = [("ok", time) for time in replysets.ends_and_beside(harmless.ok)]
+                ends += [("fail", time) for time in replysets.ends_and_beside(harmless.fail)] + [NEVER]
+                for end in [end for end in ends if end == NEVER or end[1] <= most]:
+                    is_harmless = frame.effects(outcomes_in([end])).is_within(wanted)
+                    self.assertEqual(end in harmless, is_harmless, (tree, number, end))
+                    world = frame.against(wanted, end)
+                    self.assertEqual(world is None, is_harmless)
+                    self.assertTrue(world is None or frame(end, world) not in wanted)
+                    both.add(is_harmless)
+        self.assertEqual(both, {True, False})
+
     def test_great_numbers(self):
         frame = Frame(plan("((hole else (pause 1000000000 then call a)) then (call b both retry 2 1000000000 call c))"),
                       wide_sets(4, ("ok",)))

@@ -199,6 +199,10 @@ class ReasonsTest(unittest.TestCase):
             wide = Bound(plan, wide_sets(len(plan.calls()), hang=True))
             for reply in (("ok", 1), ("fail", 10**6), NEVER):
                 narrow = wide.at([reply] * len(wide))
+                for inside in (True, False):
+                    world = world_ending(wide, wanted, inside=inside)
+                    self.assertEqual(world is None, settled(wide, wanted) is not None and settled(wide, wanted) != inside)
+                    self.assertTrue(world is None or settled(wide.at(world), wanted) is inside)
                 found = reasons(wide, narrow, wanted)
                 changing = changes(wide, narrow, wanted)
                 self.assertTrue(all(set(one) & set(other) for one in found for other in changing))
