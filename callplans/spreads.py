@@ -113,7 +113,7 @@ def both_ended(spread, other):
     one, two = [0] * orders_of(spread), [0] * orders_of(other)
     last = 0
     found = {}
-    for start in sorted([*first, *[start for start in second if start not in first]]):
+    for start in sorted([*first, *[other_start for other_start in second if other_start not in first]]):
         if start > last:
             one, two = moved(one, start - last), moved(two, start - last)
         last = start
